@@ -1,0 +1,1 @@
+"""Days in eight calendars. The functions lie in eightcalendars.days."""

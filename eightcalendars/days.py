@@ -1,0 +1,167 @@
+"""The day of a date and the date of a day, in eight calendars.
+
+Days are numbered from the Gregorian year 1's first day, 1, on both sides.
+"""
+
+GREGORIAN = 0
+JULIAN = 1
+HEBREW = 2
+ISLAMIC = 3
+COPTIC = 4
+ETHIOPIAN = 5
+PERSIAN = 6
+WEEKS = 7
+
+LOWEST_YEAR = -1900000000
+HIGHEST_YEAR = 1900000000
+LOWEST_DAY = -700000000000
+HIGHEST_DAY = 700000000000
+
+REFUSAL = -1
+
+# For each kind, in order: so many days in so many years, on the whole.
+MEAN_YEARS = (
+    (146097, 400),
+    (1461, 4),
+    (35975351, 98496),
+    (10631, 30),
+    (1461, 4),
+    (1461, 4),
+    (1029983, 2820),
+    (146097, 400),
+)
+
+
+def is_kind(kind):
+    return GREGORIAN <= kind <= WEEKS
+
+
+def gregorian_start(y):
+    past = y - 1
+    return 365 * past + past // 4 - past // 100 + past // 400 + 1
+
+
+def julian_start(y):
+    past = y - 1
+    return 365 * past + past // 4 - 1
+
+
+def hebrew_elapsed(y):
+    months = (235 * y - 234) // 19
+    days = 29 * months + (12084 + 13753 * months) // 25920
+    # No year may begin on a Sunday, a Wednesday or a Friday.
+    if 3 * (days + 1) % 7 < 3:
+        return days + 1
+    return days
+
+
+def hebrew_start(y):
+    elapsed = hebrew_elapsed(y)
+    start = -1373427 + elapsed
+    # Put off, for else this year would be too long, or the one before too short.
+    if hebrew_elapsed(y + 1) - elapsed == 356:
+        return start + 2
+    if elapsed - hebrew_elapsed(y - 1) == 382:
+        return start + 1
+    return start
+
+
+def islamic_start(y):
+    return 227015 + 354 * (y - 1) + (3 + 11 * y) // 30
+
+
+def coptic_start(y):
+    return 103605 + 365 * (y - 1) + y // 4
+
+
+def ethiopian_start(y):
+    return 2796 + 365 * (y - 1) + y // 4
+
+
+def persian_start(y):
+    past = y - 474
+    z = past % 2820 + 474
+    return 226896 + 1029983 * (past // 2820) + 365 * (z - 1) + (31 * z - 5) // 128
+
+
+def weeks_start(y):
+    fourth = gregorian_start(y) + 3
+    return fourth - (fourth - 1) % 7
+
+
+def year_start(kind, y):
+    if kind == GREGORIAN:
+        return gregorian_start(y)
+    if kind == JULIAN:
+        return julian_start(y)
+    if kind == HEBREW:
+        return hebrew_start(y)
+    if kind == ISLAMIC:
+        return islamic_start(y)
+    if kind == COPTIC:
+        return coptic_start(y)
+    if kind == ETHIOPIAN:
+        return ethiopian_start(y)
+    if kind == PERSIAN:
+        return persian_start(y)
+    return weeks_start(y)
+
+
+def year_of(kind, number):
+    """The year of a kind in which the day of that number lies."""
+    mean = MEAN_YEARS[kind]
+    y = (number - year_start(kind, 0)) * mean[1] // mean[0]
+    # The mean is a guess only: the years about it differ in length.
+    while year_start(kind, y) > number:
+        y -= 1
+    while year_start(kind, y + 1) <= number:
+        y += 1
+    return y
+
+
+def hebrew_months(length):
+    second = 30 if length % 10 == 5 else 29
+    third = 29 if length % 10 == 3 else 30
+    leap = [30] if length > 380 else []
+    return [30, second, third, 29, 30] + leap + [29, 30, 29, 30, 29, 30, 29]
+
+
+def month_lengths(kind, y):
+    """How many days each month of a year has, in order."""
+    length = year_start(kind, y + 1) - year_start(kind, y)
+    if kind == GREGORIAN or kind == JULIAN:
+        return [31, length - 337, 31, 30, 31, 30, 31, 31, 30, 31, 30, 31]
+    if kind == HEBREW:
+        return hebrew_months(length)
+    if kind == ISLAMIC:
+        return [30, 29] * 5 + [30, length - 325]
+    if kind == COPTIC or kind == ETHIOPIAN:
+        return [30] * 12 + [length - 360]
+    if kind == PERSIAN:
+        return [31] * 6 + [30] * 5 + [length - 336]
+    return [7] * (length // 7)
+
+
+def day(kind, y, m, d):
+    """[0, the date's day], or [-1]."""
+    if not is_kind(kind) or y < LOWEST_YEAR or y > HIGHEST_YEAR:
+        return [REFUSAL]
+    lengths = month_lengths(kind, y)
+    if m < 1 or m > len(lengths) or d < 1 or d > lengths[m - 1]:
+        return [REFUSAL]
+    return [0, year_start(kind, y) + sum(lengths[:m - 1]) + d - 1]
+
+
+def date(kind, day):
+    """[0, year, month, day of the month], or [-1]."""
+    if not is_kind(kind) or day < LOWEST_DAY or day > HIGHEST_DAY:
+        return [REFUSAL]
+    y = year_of(kind, day)
+    left = day - year_start(kind, y)
+    m = 1
+    for length in month_lengths(kind, y):
+        if left < length:
+            break
+        left -= length
+        m += 1
+    return [0, y, m, left + 1]
