@@ -1,4 +1,4 @@
-"""The day of a date and the date of a day, in eight calendars.
+"""Days and their dates in eight calendars, and what is reckoned with them.
 
 Days are numbered from the Gregorian year 1's first day, 1, on both sides.
 """
@@ -12,10 +12,14 @@ ETHIOPIAN = 5
 PERSIAN = 6
 WEEKS = 7
 
+WESTERN = 0
+EASTERN = 1
+
 LOWEST_YEAR = -1900000000
 HIGHEST_YEAR = 1900000000
 LOWEST_DAY = -700000000000
 HIGHEST_DAY = 700000000000
+MOST_MONTHS = 120000
 
 REFUSAL = -1
 
@@ -36,6 +40,14 @@ def is_kind(kind):
     return GREGORIAN <= kind <= WEEKS
 
 
+def is_year(y):
+    return LOWEST_YEAR <= y <= HIGHEST_YEAR
+
+
+def is_day(number):
+    return LOWEST_DAY <= number <= HIGHEST_DAY
+
+
 def gregorian_start(y):
     past = y - 1
     return 365 * past + past // 4 - past // 100 + past // 400 + 1
@@ -46,8 +58,12 @@ def julian_start(y):
     return 365 * past + past // 4 - 1
 
 
+def hebrew_months_before(y):
+    return (235 * y - 234) // 19
+
+
 def hebrew_elapsed(y):
-    months = (235 * y - 234) // 19
+    months = hebrew_months_before(y)
     days = 29 * months + (12084 + 13753 * months) // 25920
     # No year may begin on a Sunday, a Wednesday or a Friday.
     if 3 * (days + 1) % 7 < 3:
@@ -142,19 +158,59 @@ def month_lengths(kind, y):
     return [7] * (length // 7)
 
 
-def day(kind, y, m, d):
-    """[0, the date's day], or [-1]."""
-    if not is_kind(kind) or y < LOWEST_YEAR or y > HIGHEST_YEAR:
-        return [REFUSAL]
+def months_before(kind, y):
+    """How many months a calendar has ahead of a year, from a month on that stays the same."""
+    if kind == HEBREW:
+        return hebrew_months_before(y)
+    if kind == COPTIC or kind == ETHIOPIAN:
+        return 13 * y
+    if kind == WEEKS:
+        return weeks_start(y) // 7
+    return 12 * y
+
+
+def year_of_month(kind, before):
+    """The year of the month that has so many months ahead of it."""
+    if kind == HEBREW:
+        # The highest y for which (235 y - 234) / 19, rounded down, is not above.
+        return (19 * before + 252) // 235
+    if kind == COPTIC or kind == ETHIOPIAN:
+        return before // 13
+    if kind == WEEKS:
+        return year_of(kind, 7 * before + 1)
+    return before // 12
+
+
+def day_of(kind, y, m, d):
+    """The day of a date in any year, or None if there is no such date."""
     lengths = month_lengths(kind, y)
     if m < 1 or m > len(lengths) or d < 1 or d > lengths[m - 1]:
+        return None
+    return year_start(kind, y) + sum(lengths[:m - 1]) + d - 1
+
+
+def date_after_months(kind, y, m, d, n):
+    """[year, month, day of the month] n months further, of a date in any year."""
+    before = months_before(kind, y) + m - 1 + n
+    later = year_of_month(kind, before)
+    month = before - months_before(kind, later) + 1
+    last = month_lengths(kind, later)[month - 1]
+    return [later, month, min(d, last)]
+
+
+def day(kind, y, m, d):
+    """[0, the date's day], or [-1]."""
+    if not is_kind(kind) or not is_year(y):
         return [REFUSAL]
-    return [0, year_start(kind, y) + sum(lengths[:m - 1]) + d - 1]
+    found = day_of(kind, y, m, d)
+    if found is None:
+        return [REFUSAL]
+    return [0, found]
 
 
 def date(kind, day):
     """[0, year, month, day of the month], or [-1]."""
-    if not is_kind(kind) or day < LOWEST_DAY or day > HIGHEST_DAY:
+    if not is_kind(kind) or not is_day(day):
         return [REFUSAL]
     y = year_of(kind, day)
     left = day - year_start(kind, y)
@@ -165,3 +221,36 @@ def date(kind, day):
         left -= length
         m += 1
     return [0, y, m, left + 1]
+
+
+def western_moon(y):
+    """How many days the moon's day lies ahead of April 19."""
+    c = y // 100 + 1
+    left = (14 + 11 * (y % 19) - (3 * c) // 4 + (5 + 8 * c) // 25) % 30
+    if left == 0 or (left == 1 and y % 19 > 10):
+        return left + 1
+    return left
+
+
+def eastern_moon(y):
+    """How many days the moon's day lies ahead of April 19."""
+    return (14 + 11 * (y % 19)) % 30
+
+
+def easter(which, year):
+    """[0, Easter's day], or [-1]."""
+    if (which != WESTERN and which != EASTERN) or not is_year(year):
+        return [REFUSAL]
+    if which == WESTERN:
+        moon = day_of(GREGORIAN, year, 4, 19) - western_moon(year)
+    else:
+        moon = day_of(JULIAN, year, 4, 19) - eastern_moon(year)
+    # Sundays leave 0 by 7, and a moon's day that is one isn't Easter itself.
+    return [0, moon + 7 - moon % 7]
+
+
+def add(kind, y, m, d, n):
+    """[0, year, month, day of the month] n months further, or [-1]."""
+    if day(kind, y, m, d) == [REFUSAL] or n < -MOST_MONTHS or n > MOST_MONTHS:
+        return [REFUSAL]
+    return [0] + date_after_months(kind, y, m, d, n)

@@ -142,3 +142,37 @@ def year_of_length(kind, days, from_year):
     while length(kind, y) != days:
         y += 1
     return y
+
+
+def add_months(kind, date_from, n):
+    """n months further, from year to year by the months that each has."""
+    y, m, d = date_from
+    m += n
+    while m < 1:
+        y -= 1
+        m += len(months(kind, y))
+    while m > len(months(kind, y)):
+        m -= len(months(kind, y))
+        y += 1
+    return y, m, min(d, months(kind, y)[m - 1])
+
+
+def western_easter(year):
+    """By Butcher's steps, which know no moon's day. Western Easter comes again after 5700000 years."""
+    y = year % 5700000
+    a, b, c = y % 19, y // 100, y % 100
+    g = (b - (b + 8) // 25 + 1) // 3
+    h = (19 * a + b - b // 4 - g + 15) % 30
+    left = (32 + 2 * (b % 4) + 2 * (c // 4) - h - c % 4) % 7
+    m = (a + 11 * h + 22 * left) // 451
+    month, days = divmod(h + left - 7 * m + 114, 31)
+    return start(0, year) + sum(months(0, year)[:month - 1]) + days
+
+
+def eastern_easter(year):
+    """By Meeus's steps, in a Julian year. Eastern Easter comes again after 532 years."""
+    y = year % 532
+    d = (19 * (y % 19) + 15) % 30
+    e = (2 * (y % 4) + 4 * (y % 7) - d + 34) % 7
+    month, days = divmod(d + e + 114, 31)
+    return start(1, year) + sum(months(1, year)[:month - 1]) + days
