@@ -20,6 +20,7 @@ HIGHEST_YEAR = 1900000000
 LOWEST_DAY = -700000000000
 HIGHEST_DAY = 700000000000
 MOST_MONTHS = 120000
+MOST_DAYS = 1000000
 
 REFUSAL = -1
 
@@ -254,3 +255,39 @@ def add(kind, y, m, d, n):
     if day(kind, y, m, d) == [REFUSAL] or n < -MOST_MONTHS or n > MOST_MONTHS:
         return [REFUSAL]
     return [0] + date_after_months(kind, y, m, d, n)
+
+
+def day_after_months(kind, begin, n):
+    """The day n months further than a date as it is answered."""
+    later = date_after_months(kind, begin[1], begin[2], begin[3], n)
+    return day_of(kind, later[0], later[1], later[2])
+
+
+def between(kind, a, b):
+    """[0, how many months from a to b, how many days are left then], or [-1]."""
+    begin = date(kind, a)
+    end = date(kind, b)
+    if begin == [REFUSAL] or end == [REFUSAL] or a > b or b - a > MOST_DAYS:
+        return [REFUSAL]
+    months = months_before(kind, end[1]) + end[2] - months_before(kind, begin[1]) - begin[2]
+    # So many months lead into b's month, but perhaps to a day behind b.
+    if day_after_months(kind, begin, months) > b:
+        months -= 1
+    return [0, months, b - day_after_months(kind, begin, months)]
+
+
+def nth(kind, y, m, w, n):
+    """[0, the day of the n-th day w of the week in a month], or [-1]."""
+    begin = day(kind, y, m, 1)
+    if begin == [REFUSAL] or w < 1 or w > 7 or n == 0:
+        return [REFUSAL]
+    first = begin[1]
+    last = first + month_lengths(kind, y)[m - 1] - 1
+    # A day leaves by 7 what its day of the week does.
+    if n > 0:
+        found = first + (w - first) % 7 + 7 * (n - 1)
+    else:
+        found = last - (last - w) % 7 + 7 * (n + 1)
+    if found < first or found > last:
+        return [REFUSAL]
+    return [0, found]

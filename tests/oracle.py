@@ -136,6 +136,10 @@ def date(kind, number):
     return days[number - start(kind, y)]
 
 
+def day(kind, y, m, d):
+    return start(kind, y) + sum(months(kind, y)[:m - 1]) + d - 1
+
+
 def year_of_length(kind, days, from_year):
     """The first year of that length from a year on."""
     y = from_year
@@ -166,7 +170,7 @@ def western_easter(year):
     left = (32 + 2 * (b % 4) + 2 * (c // 4) - h - c % 4) % 7
     m = (a + 11 * h + 22 * left) // 451
     month, days = divmod(h + left - 7 * m + 114, 31)
-    return start(0, year) + sum(months(0, year)[:month - 1]) + days
+    return day(0, year, month, days + 1)
 
 
 def eastern_easter(year):
@@ -175,4 +179,10 @@ def eastern_easter(year):
     d = (19 * (y % 19) + 15) % 30
     e = (2 * (y % 4) + 4 * (y % 7) - d + 34) % 7
     month, days = divmod(d + e + 114, 31)
-    return start(1, year) + sum(months(1, year)[:month - 1]) + days
+    return day(1, year, month, days + 1)
+
+
+def month_of(kind, y, m):
+    """Every day of a month."""
+    first = day(kind, y, m, 1)
+    return list(range(first, first + months(kind, y)[m - 1]))

@@ -15,6 +15,8 @@ ARGUMENTS = {
     "date": ["kind", "day"],
     "easter": ["which", "year"],
     "add": ["kind", "y", "m", "d", "n"],
+    "between": ["kind", "a", "b"],
+    "nth": ["kind", "y", "m", "w", "n"],
 }
 
 # Calls of each function, and what each gives back: at least one that is met and one that is refused.
@@ -31,6 +33,10 @@ CALLS = [
     ("add", [0, 2024, 1, 31, 1], [0, 2024, 2, 29]),
     ("add", [2, 5784, 13, 29, 1], [0, 5785, 1, 29]),
     ("add", [0, 2024, 1, 31, 120001], [-1]),
+    ("between", [0, 738916, 738946], [0, 1, 1]),
+    ("between", [0, 738946, 738916], [-1]),
+    ("nth", [0, 2024, 11, 4, 4], [0, 739218]),
+    ("nth", [0, 2024, 11, 4, 5], [-1]),
 ]
 
 LIST_IMPORTS = (
