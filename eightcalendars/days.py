@@ -224,6 +224,22 @@ def date(kind, day):
     return [0, y, m, left + 1]
 
 
+def convert(kind, y, m, d, to):
+    """[0, year, month, day of the month] in another calendar, or [-1]."""
+    found = day(kind, y, m, d)
+    if found == [REFUSAL]:
+        return [REFUSAL]
+    # All years that may be handed over lie well within the days that date takes.
+    return date(to, found[1])
+
+
+def weekday(day):
+    """[Monday 1 to Sunday 7], or [-1]."""
+    if not is_day(day):
+        return [REFUSAL]
+    return [(day - 1) % 7 + 1]
+
+
 def western_moon(y):
     """How many days the moon's day lies ahead of April 19."""
     c = y // 100 + 1
