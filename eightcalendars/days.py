@@ -15,12 +15,19 @@ WEEKS = 7
 WESTERN = 0
 EASTERN = 1
 
+MONTH_STYLE = 0
+YEAR_STYLE = 1
+WEEK_STYLE = 2
+
 LOWEST_YEAR = -1900000000
 HIGHEST_YEAR = 1900000000
 LOWEST_DAY = -700000000000
 HIGHEST_DAY = 700000000000
 MOST_MONTHS = 120000
 MOST_DAYS = 1000000
+
+# For each style, in order: what stands behind the year, a 9 for any digit.
+FORMS = ("-99-99", "-999", "-W99-9")
 
 REFUSAL = -1
 
@@ -249,11 +256,6 @@ def western_moon(y):
     return left
 
 
-def eastern_moon(y):
-    """How many days the moon's day lies ahead of April 19."""
-    return (14 + 11 * (y % 19)) % 30
-
-
 def easter(which, year):
     """[0, Easter's day], or [-1]."""
     if (which != WESTERN and which != EASTERN) or not is_year(year):
@@ -261,7 +263,7 @@ def easter(which, year):
     if which == WESTERN:
         moon = day_of(GREGORIAN, year, 4, 19) - western_moon(year)
     else:
-        moon = day_of(JULIAN, year, 4, 19) - eastern_moon(year)
+        moon = day_of(JULIAN, year, 4, 19) - (14 + 11 * (year % 19)) % 30
     # Sundays leave 0 by 7, and a moon's day that is one isn't Easter itself.
     return [0, moon + 7 - moon % 7]
 
@@ -307,3 +309,87 @@ def nth(kind, y, m, w, n):
     if found < first or found > last:
         return [REFUSAL]
     return [0, found]
+
+
+def year_text(y):
+    if 0 <= y <= 9999:
+        return str(y).zfill(4)
+    sign = "-" if y < 0 else "+"
+    return sign + str(abs(y)).zfill(6)
+
+
+def date_text(style, number):
+    kind = WEEKS if style == WEEK_STYLE else GREGORIAN
+    found = date(kind, number)
+    year = year_text(found[1])
+    if style == MONTH_STYLE:
+        return year + "-" + str(found[2]).zfill(2) + "-" + str(found[3]).zfill(2)
+    if style == YEAR_STYLE:
+        return year + "-" + str(number - year_start(kind, found[1]) + 1).zfill(3)
+    return year + "-W" + str(found[2]).zfill(2) + "-" + str(found[3])
+
+
+def tell(style, day):
+    """[how long the day's text is, then its bytes], or [-1]."""
+    if style < MONTH_STYLE or style > WEEK_STYLE or not is_day(day):
+        return [REFUSAL]
+    text = date_text(style, day)
+    return [len(text)] + [ord(sign) for sign in text]
+
+
+def fits(form, part):
+    """Whether these bytes are as a form has them."""
+    if len(part) != len(form):
+        return False
+    for sign, byte in zip(form, part):
+        if sign == "9" and (byte < ord("0") or byte > ord("9")):
+            return False
+        if sign != "9" and byte != ord(sign):
+            return False
+    return True
+
+
+def number_in(digits):
+    """The number that these bytes tell, if all of them are digits."""
+    number = 0
+    for byte in digits:
+        number = 10 * number + byte - ord("0")
+    return number
+
+
+def year_in(part):
+    """The year that these bytes tell, or None."""
+    if fits("9999", part):
+        return number_in(part)
+    count = len(part) - 1
+    if count < 6 or count > 10 or (count > 6 and part[1] == ord("0")):
+        return None
+    number = number_in(part[1:])
+    # Years from 0 to 9999 have no sign.
+    if fits("+" + "9" * count, part) and number > 9999:
+        return number
+    if fits("-" + "9" * count, part) and number > 0:
+        return -number
+    return None
+
+
+def day_in(style, y, part):
+    """The day that a year and the bytes behind it tell, or None."""
+    if style == MONTH_STYLE:
+        return day_of(GREGORIAN, y, number_in(part[1:3]), number_in(part[4:]))
+    if style == WEEK_STYLE:
+        return day_of(WEEKS, y, number_in(part[2:4]), number_in(part[5:]))
+    number = year_start(GREGORIAN, y) + number_in(part[1:]) - 1
+    return number if year_of(GREGORIAN, number) == y else None
+
+
+def read(text):
+    """[0, the day that a text tells], or [-1]."""
+    for style, form in enumerate(FORMS):
+        part = text[-len(form):]
+        if fits(form, part):
+            y = year_in(text[:-len(form)])
+            found = None if y is None else day_in(style, y, part)
+            if found is not None and is_day(found):
+                return [0, found]
+    return [REFUSAL]

@@ -4,6 +4,8 @@ The tests hold the program against this. Years of seven kinds are told by one wh
 lengths; a Hebrew year begins by the new moon's hour and the four rules that put it off.
 """
 
+import re
+
 KINDS = range(8)
 LOWEST_YEAR = -1900000000
 HIGHEST_YEAR = 1900000000
@@ -186,3 +188,27 @@ def month_of(kind, y, m):
     """Every day of a month."""
     first = day(kind, y, m, 1)
     return list(range(first, first + months(kind, y)[m - 1]))
+
+
+READ_FORM = re.compile(rb"(\d{4}|[+-]\d{6}|[+-][1-9]\d{6,9})(?:-(\d\d)-(\d\d)|-(\d{3})|-W(\d\d)-(\d))")
+
+
+def parts_day(y, month, days, of_year, week, weekday):
+    """The day that the parts of a text tell, or None."""
+    if of_year is not None:
+        return start(0, y) + of_year - 1 if 1 <= of_year <= length(0, y) else None
+    kind, m, d = (0, month, days) if month is not None else (7, week, weekday)
+    if 1 <= m <= len(months(kind, y)) and 1 <= d <= months(kind, y)[m - 1]:
+        return day(kind, y, m, d)
+    return None
+
+
+def read(text):
+    found = READ_FORM.fullmatch(bytes(text))
+    if found is None:
+        return [-1]
+    y = int(found[1])
+    if found[1][:1] in b"+-" and 0 <= y <= 9999:
+        return [-1]
+    number = parts_day(y, *[None if part is None else int(part) for part in found.groups()[1:]])
+    return [0, number] if number is not None and LOWEST_DAY <= number <= HIGHEST_DAY else [-1]

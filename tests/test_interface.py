@@ -1,6 +1,7 @@
 """The interface: names and arguments, what is given back, and that nothing else is done."""
 
 import contextlib
+import copy
 import inspect
 import io
 import subprocess
@@ -19,6 +20,8 @@ ARGUMENTS = {
     "add": ["kind", "y", "m", "d", "n"],
     "between": ["kind", "a", "b"],
     "nth": ["kind", "y", "m", "w", "n"],
+    "tell": ["style", "day"],
+    "read": ["text"],
 }
 
 # Calls of each function, and what each gives back: at least one that is met and one that is refused.
@@ -43,6 +46,10 @@ CALLS = [
     ("between", [0, 738946, 738916], [-1]),
     ("nth", [0, 2024, 11, 4, 4], [0, 739218]),
     ("nth", [0, 2024, 11, 4, 5], [-1]),
+    ("tell", [1, 738955], [8, 50, 48, 50, 52, 45, 48, 55, 48]),
+    ("tell", [3, 738955], [-1]),
+    ("read", [[50, 48, 50, 52, 45, 48, 55, 48]], [0, 738955]),
+    ("read", [[50, 48, 50, 52, 45, 48, 55]], [-1]),
 ]
 
 LIST_IMPORTS = (
@@ -87,6 +94,12 @@ class Interface(unittest.TestCase):
             answer(name, values).append(99)
         for name, values, expected in reversed(CALLS):
             self.assertEqual(answer(name, values), expected, (name, values))
+
+    def test_what_is_handed_in_is_not_changed(self):
+        for name, values, expected in CALLS:
+            handed = copy.deepcopy(values)
+            answer(name, handed)
+            self.assertEqual(handed, values, name)
 
     def test_nothing_is_printed(self):
         printed = io.StringIO()
