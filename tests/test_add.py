@@ -5,7 +5,6 @@ import unittest
 import oracle
 from eightcalendars.days import add, date, day
 
-LOWEST_W, HIGHEST_W = -2147483648, 2147483647
 MOST = 120000
 
 STEPS = (0, 1, -1, 2, -2, 5, -7, 11, 12, -12, 13, -13, 19, 25, -40, 52, -52, 53, 54, -53, -54, 105, 235, -235,
@@ -184,19 +183,19 @@ class Ends(AddCase):
     def test_too_many_months(self):
         for kind in oracle.KINDS:
             for y in (oracle.LOWEST_YEAR, 0, 2000, oracle.HIGHEST_YEAR):
-                for n in (MOST + 1, -MOST - 1, LOWEST_W, HIGHEST_W):
+                for n in (MOST + 1, -MOST - 1, oracle.LOWEST_W, oracle.HIGHEST_W):
                     self.assertEqual(add(kind, y, 1, 1, n), [-1], (kind, y, n))
 
 
 class Refusals(AddCase):
     def test_no_such_kind(self):
-        for kind in (-1, 8, LOWEST_W, HIGHEST_W):
+        for kind in (-1, 8, oracle.LOWEST_W, oracle.HIGHEST_W):
             for n in (0, 1):
                 self.assertEqual(add(kind, 5, 1, 1, n), [-1], (kind, n))
 
     def test_years_beyond(self):
         for kind in oracle.KINDS:
-            for y in (oracle.LOWEST_YEAR - 1, oracle.HIGHEST_YEAR + 1, LOWEST_W, HIGHEST_W):
+            for y in (oracle.LOWEST_YEAR - 1, oracle.HIGHEST_YEAR + 1, oracle.LOWEST_W, oracle.HIGHEST_W):
                 for n in (0, 100, -100):
                     self.assertEqual(add(kind, y, 1, 1, n), [-1], (kind, y, n))
 
@@ -205,19 +204,19 @@ class Refusals(AddCase):
             for length in oracle.MONTHS[kind]:
                 y = oracle.year_of_length(kind, length, 1990)
                 months = oracle.months(kind, y)
-                for m in (0, -1, len(months) + 1, LOWEST_W, HIGHEST_W):
+                for m in (0, -1, len(months) + 1, oracle.LOWEST_W, oracle.HIGHEST_W):
                     self.assertEqual(add(kind, y, m, 1, 1), [-1], (kind, y, m))
                 for m, days in enumerate(months, start=1):
-                    for d in (0, -1, days + 1, LOWEST_W, HIGHEST_W):
+                    for d in (0, -1, days + 1, oracle.LOWEST_W, oracle.HIGHEST_W):
                         self.assertEqual(add(kind, y, m, d, 1), [-1], (kind, y, m, d))
                         self.assertEqual(add(kind, y, m, d, 0), [-1], (kind, y, m, d))
 
     def test_all_at_the_ends(self):
-        for kind in (LOWEST_W, 0, 7, HIGHEST_W):
-            for y in (LOWEST_W, HIGHEST_W):
-                for m in (LOWEST_W, HIGHEST_W):
-                    for d in (LOWEST_W, HIGHEST_W):
-                        for n in (LOWEST_W, HIGHEST_W):
+        for kind in (oracle.LOWEST_W, 0, 7, oracle.HIGHEST_W):
+            for y in (oracle.LOWEST_W, oracle.HIGHEST_W):
+                for m in (oracle.LOWEST_W, oracle.HIGHEST_W):
+                    for d in (oracle.LOWEST_W, oracle.HIGHEST_W):
+                        for n in (oracle.LOWEST_W, oracle.HIGHEST_W):
                             self.assertEqual(add(kind, y, m, d, n), [-1], (kind, y, m, d, n))
 
 

@@ -5,8 +5,6 @@ import unittest
 import oracle
 from eightcalendars.days import add, between, date, day
 
-LOWEST_W, HIGHEST_W = -2147483648, 2147483647
-LOWEST_D, HIGHEST_D = -9223372036854775808, 9223372036854775807
 MOST = 1000000
 
 
@@ -170,16 +168,16 @@ class Ends(BetweenCase):
         for kind in oracle.KINDS:
             self.assertEqual(between(kind, oracle.LOWEST_DAY - 1, oracle.LOWEST_DAY), [-1], kind)
             self.assertEqual(between(kind, oracle.HIGHEST_DAY, oracle.HIGHEST_DAY + 1), [-1], kind)
-            for beyond in (oracle.LOWEST_DAY - 1, oracle.HIGHEST_DAY + 1, LOWEST_D, HIGHEST_D):
+            for beyond in (oracle.LOWEST_DAY - 1, oracle.HIGHEST_DAY + 1, oracle.LOWEST_D, oracle.HIGHEST_D):
                 self.assertEqual(between(kind, beyond, beyond), [-1], (kind, beyond))
             self.assertEqual(between(kind, oracle.LOWEST_DAY, oracle.HIGHEST_DAY), [-1], kind)
-            self.assertEqual(between(kind, LOWEST_D, HIGHEST_D), [-1], kind)
-            self.assertEqual(between(kind, HIGHEST_D, LOWEST_D), [-1], kind)
-            self.assertEqual(between(kind, 0, HIGHEST_D), [-1], kind)
-            self.assertEqual(between(kind, LOWEST_D, 0), [-1], kind)
+            self.assertEqual(between(kind, oracle.LOWEST_D, oracle.HIGHEST_D), [-1], kind)
+            self.assertEqual(between(kind, oracle.HIGHEST_D, oracle.LOWEST_D), [-1], kind)
+            self.assertEqual(between(kind, 0, oracle.HIGHEST_D), [-1], kind)
+            self.assertEqual(between(kind, oracle.LOWEST_D, 0), [-1], kind)
 
     def test_no_such_kind(self):
-        for kind in (-1, 8, LOWEST_W, HIGHEST_W):
+        for kind in (-1, 8, oracle.LOWEST_W, oracle.HIGHEST_W):
             self.assertEqual(between(kind, 1, 1), [-1], kind)
             self.assertEqual(between(kind, 1, 100), [-1], kind)
 

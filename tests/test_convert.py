@@ -5,8 +5,6 @@ import unittest
 import oracle
 from eightcalendars.days import convert, date, day
 
-LOWEST_W, HIGHEST_W = -2147483648, 2147483647
-
 # One day's date in each of the eight calendars, in order; three days.
 KNOWN = [
     [(-586, 7, 24), (-586, 7, 30), (3174, 11, 10), (-1245, 12, 9),
@@ -105,13 +103,13 @@ class Ends(ConvertCase):
     def test_years_beyond(self):
         for kind in oracle.KINDS:
             for to in oracle.KINDS:
-                for y in (oracle.LOWEST_YEAR - 1, oracle.HIGHEST_YEAR + 1, LOWEST_W, HIGHEST_W):
+                for y in (oracle.LOWEST_YEAR - 1, oracle.HIGHEST_YEAR + 1, oracle.LOWEST_W, oracle.HIGHEST_W):
                     self.assertEqual(convert(kind, y, 1, 1, to), [-1], (kind, y, to))
 
 
 class Refusals(unittest.TestCase):
     def test_kinds(self):
-        for kind in (-1, 8, 100, LOWEST_W, HIGHEST_W):
+        for kind in (-1, 8, 100, oracle.LOWEST_W, oracle.HIGHEST_W):
             for other in (0, 3, 7):
                 self.assertEqual(convert(kind, 5, 1, 1, other), [-1], (kind, other))
                 self.assertEqual(convert(other, 5, 1, 1, kind), [-1], (other, kind))
@@ -127,19 +125,19 @@ class Refusals(unittest.TestCase):
                 y = oracle.year_of_length(kind, length, 1990)
                 months = oracle.months(kind, y)
                 for to in oracle.KINDS:
-                    for m in (0, -1, len(months) + 1, LOWEST_W, HIGHEST_W):
+                    for m in (0, -1, len(months) + 1, oracle.LOWEST_W, oracle.HIGHEST_W):
                         self.assertEqual(convert(kind, y, m, 1, to), [-1], (kind, y, m, to))
                     for m, days in enumerate(months, start=1):
-                        for d in (0, -1, days + 1, LOWEST_W, HIGHEST_W):
+                        for d in (0, -1, days + 1, oracle.LOWEST_W, oracle.HIGHEST_W):
                             self.assertEqual(convert(kind, y, m, d, to), [-1], (kind, y, m, d, to))
 
     def test_all_at_the_ends(self):
-        ends = (LOWEST_W, HIGHEST_W)
-        for kind in (LOWEST_W, 0, 7, HIGHEST_W):
+        ends = (oracle.LOWEST_W, oracle.HIGHEST_W)
+        for kind in (oracle.LOWEST_W, 0, 7, oracle.HIGHEST_W):
             for y in ends:
                 for m in ends:
                     for d in ends:
-                        for to in (LOWEST_W, 0, 7, HIGHEST_W):
+                        for to in (oracle.LOWEST_W, 0, 7, oracle.HIGHEST_W):
                             self.assertEqual(convert(kind, y, m, d, to), [-1], (kind, y, m, d, to))
 
 

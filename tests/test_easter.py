@@ -6,8 +6,6 @@ import unittest
 import oracle
 from eightcalendars.days import date, day, easter
 
-LOWEST_W, HIGHEST_W = -2147483648, 2147483647
-
 # The Gregorian dates of Western Easter.
 WESTERN = [
     (1583, 4, 10), (1598, 3, 22), (1666, 4, 25), (1693, 3, 22), (1700, 4, 11), (1761, 3, 22), (1818, 3, 22),
@@ -120,18 +118,18 @@ class ManyYears(unittest.TestCase):
 
 class Refusals(unittest.TestCase):
     def test_which(self):
-        for which in (-1, 2, 3, 7, LOWEST_W, HIGHEST_W):
+        for which in (-1, 2, 3, 7, oracle.LOWEST_W, oracle.HIGHEST_W):
             for y in (0, 2000):
                 self.assertEqual(easter(which, y), [-1], (which, y))
 
     def test_years(self):
         for which in (0, 1):
-            for y in (oracle.LOWEST_YEAR - 1, oracle.HIGHEST_YEAR + 1, LOWEST_W, HIGHEST_W):
+            for y in (oracle.LOWEST_YEAR - 1, oracle.HIGHEST_YEAR + 1, oracle.LOWEST_W, oracle.HIGHEST_W):
                 self.assertEqual(easter(which, y), [-1], (which, y))
 
     def test_both_at_the_ends(self):
-        for which in (LOWEST_W, HIGHEST_W):
-            for y in (LOWEST_W, HIGHEST_W):
+        for which in (oracle.LOWEST_W, oracle.HIGHEST_W):
+            for y in (oracle.LOWEST_W, oracle.HIGHEST_W):
                 self.assertEqual(easter(which, y), [-1], (which, y))
 
 

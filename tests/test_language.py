@@ -23,6 +23,12 @@ FORBIDDEN_WORDS = (
     "NamedTuple TypedDict TYPE_CHECKING abstractmethod"
 ).split()
 
+OWN_METHODS = (
+    "append clear copy count endswith extend find get index insert isalnum isalpha isdigit islower isspace isupper "
+    "items join keys ljust lower lstrip partition pop remove replace reverse rfind rjust rpartition rsplit rstrip "
+    "setdefault split splitlines startswith strip update upper values zfill bit_length"
+).split()
+
 
 def bound_names(tree):
     """Every name that the program gives: of functions, classes, parameters and values."""
@@ -101,6 +107,21 @@ class Language(unittest.TestCase):
             for word in re.findall(r"\w+", path.read_text()):
                 self.assertNotIn(word, FORBIDDEN_WORDS, path.name)
                 self.assertNotRegex(word, "dataclass|overload|contextmanager", path.name)
+
+    def test_is_l20(self):
+        for name, node in self.nodes():
+            if isinstance(node, ast.Compare):
+                for op, right in zip(node.ops, node.comparators):
+                    if isinstance(op, (ast.Is, ast.IsNot)):
+                        self.assertIsInstance(right, ast.Constant, (name, node.lineno))
+                        self.assertIn(right.value, (None, True, False), (name, node.lineno))
+
+    def test_methods_l25(self):
+        # The package has no class so far, so every method is one of Python's own.
+        for name, node in self.nodes():
+            self.assertNotIsInstance(node, ast.ClassDef, name)
+            if isinstance(node, ast.Attribute):
+                self.assertIn(node.attr, OWN_METHODS, (name, node.lineno))
 
     def test_texts_l27(self):
         for name, node in self.nodes():

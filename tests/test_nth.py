@@ -6,7 +6,6 @@ import unittest
 import oracle
 from eightcalendars.days import nth
 
-LOWEST_W, HIGHEST_W = -2147483648, 2147483647
 FROM_YEARS = (-1899999000, -4000, 0, 1400, 1990, 5700, 1899999000)
 
 
@@ -104,7 +103,7 @@ class Refusals(unittest.TestCase):
     def test_n_far_off(self):
         for kind in oracle.KINDS:
             for w in (1, 7):
-                for n in (6, -6, 100, -100, LOWEST_W, HIGHEST_W):
+                for n in (6, -6, 100, -100, oracle.LOWEST_W, oracle.HIGHEST_W):
                     self.assertEqual(nth(kind, 5, 1, w, n), [-1], (kind, w, n))
 
     def test_days_of_the_week(self):
@@ -112,7 +111,7 @@ class Refusals(unittest.TestCase):
             for w in (1, 7):
                 self.assertEqual(nth(kind, 5, 1, w, 1), expected_nth(kind, 5, 1, w, 1))
                 self.assertEqual(nth(kind, 5, 1, w, 1)[0], 0)
-            for w in (0, 8, -1, -7, 14, LOWEST_W, HIGHEST_W):
+            for w in (0, 8, -1, -7, 14, oracle.LOWEST_W, oracle.HIGHEST_W):
                 for n in (1, -1):
                     self.assertEqual(nth(kind, 5, 1, w, n), [-1], (kind, w, n))
 
@@ -123,7 +122,7 @@ class Refusals(unittest.TestCase):
                 months = len(oracle.months(kind, y))
                 for w in range(1, 8):
                     self.assertEqual(nth(kind, y, months, w, 1), expected_nth(kind, y, months, w, 1))
-                    for m in (0, -1, -months, months + 1, LOWEST_W, HIGHEST_W):
+                    for m in (0, -1, -months, months + 1, oracle.LOWEST_W, oracle.HIGHEST_W):
                         for n in (1, -1):
                             self.assertEqual(nth(kind, y, m, w, n), [-1], (kind, y, m, w, n))
 
@@ -135,21 +134,21 @@ class Refusals(unittest.TestCase):
 
     def test_years_beyond(self):
         for kind in oracle.KINDS:
-            for y in (oracle.LOWEST_YEAR - 1, oracle.HIGHEST_YEAR + 1, LOWEST_W, HIGHEST_W):
+            for y in (oracle.LOWEST_YEAR - 1, oracle.HIGHEST_YEAR + 1, oracle.LOWEST_W, oracle.HIGHEST_W):
                 for n in (1, -1):
                     self.assertEqual(nth(kind, y, 1, 1, n), [-1], (kind, y, n))
 
     def test_no_such_kind(self):
-        for kind in (-1, 8, LOWEST_W, HIGHEST_W):
+        for kind in (-1, 8, oracle.LOWEST_W, oracle.HIGHEST_W):
             for n in (1, -1):
                 self.assertEqual(nth(kind, 5, 1, 1, n), [-1], (kind, n))
 
     def test_all_at_the_ends(self):
-        for kind in (LOWEST_W, 0, 7, HIGHEST_W):
-            for y in (LOWEST_W, HIGHEST_W):
-                for m in (LOWEST_W, HIGHEST_W):
-                    for w in (LOWEST_W, HIGHEST_W):
-                        for n in (LOWEST_W, HIGHEST_W):
+        for kind in (oracle.LOWEST_W, 0, 7, oracle.HIGHEST_W):
+            for y in (oracle.LOWEST_W, oracle.HIGHEST_W):
+                for m in (oracle.LOWEST_W, oracle.HIGHEST_W):
+                    for w in (oracle.LOWEST_W, oracle.HIGHEST_W):
+                        for n in (oracle.LOWEST_W, oracle.HIGHEST_W):
                             self.assertEqual(nth(kind, y, m, w, n), [-1], (kind, y, m, w, n))
 
 

@@ -5,9 +5,6 @@ import unittest
 import oracle
 from eightcalendars.days import date, day
 
-LOWEST_W, HIGHEST_W = -2147483648, 2147483647
-LOWEST_D, HIGHEST_D = -9223372036854775808, 9223372036854775807
-
 # For each kind, in order: the dates of the lowest day and of the highest.
 END_DATES = [
     ((-1916534904, 2, 9), (1916534905, 11, 22)),
@@ -41,7 +38,7 @@ class Kinds(unittest.TestCase):
         self.assertEqual(date(7, 739250), [0, 2025, 1, 1])
 
     def test_no_such_kind(self):
-        for kind in (-1, 8, -8, 9, 100, LOWEST_W, HIGHEST_W):
+        for kind in (-1, 8, -8, 9, 100, oracle.LOWEST_W, oracle.HIGHEST_W):
             self.assertEqual(day(kind, 1, 1, 1), [-1], kind)
             self.assertEqual(date(kind, 1), [-1], kind)
             self.assertEqual(date(kind, 0), [-1], kind)
@@ -62,7 +59,7 @@ class Years(unittest.TestCase):
 
     def test_years_beyond(self):
         for kind in oracle.KINDS:
-            for y in (oracle.LOWEST_YEAR - 1, oracle.HIGHEST_YEAR + 1, LOWEST_W, HIGHEST_W):
+            for y in (oracle.LOWEST_YEAR - 1, oracle.HIGHEST_YEAR + 1, oracle.LOWEST_W, oracle.HIGHEST_W):
                 self.assertEqual(day(kind, y, 1, 1), [-1], (kind, y))
 
     def test_years_that_come_out_may_be_beyond(self):
@@ -88,7 +85,7 @@ class Days(unittest.TestCase):
 
     def test_days_beyond(self):
         for kind in oracle.KINDS:
-            for number in (oracle.LOWEST_DAY - 1, oracle.HIGHEST_DAY + 1, LOWEST_D, HIGHEST_D):
+            for number in (oracle.LOWEST_DAY - 1, oracle.HIGHEST_DAY + 1, oracle.LOWEST_D, oracle.HIGHEST_D):
                 self.assertEqual(date(kind, number), [-1], (kind, number))
 
     def test_day_does_not_take_what_date_gives_there(self):
@@ -100,19 +97,19 @@ class Days(unittest.TestCase):
 class NoSuchDate(unittest.TestCase):
     def test_no_such_month(self):
         for kind in oracle.KINDS:
-            for m in (0, -1, -2, -12, -52, 54, 100, LOWEST_W, HIGHEST_W):
+            for m in (0, -1, -2, -12, -52, 54, 100, oracle.LOWEST_W, oracle.HIGHEST_W):
                 self.assertEqual(day(kind, 5, m, 1), [-1], (kind, m))
 
     def test_no_such_day(self):
         for kind in oracle.KINDS:
-            for d in (0, -1, -2, -30, 32, 100, LOWEST_W, HIGHEST_W):
+            for d in (0, -1, -2, -30, 32, 100, oracle.LOWEST_W, oracle.HIGHEST_W):
                 self.assertEqual(day(kind, 5, 1, d), [-1], (kind, d))
 
     def test_all_at_the_ends(self):
-        for kind in (LOWEST_W, 0, 7, HIGHEST_W):
-            for y in (LOWEST_W, HIGHEST_W):
-                for m in (LOWEST_W, HIGHEST_W):
-                    for d in (LOWEST_W, HIGHEST_W):
+        for kind in (oracle.LOWEST_W, 0, 7, oracle.HIGHEST_W):
+            for y in (oracle.LOWEST_W, oracle.HIGHEST_W):
+                for m in (oracle.LOWEST_W, oracle.HIGHEST_W):
+                    for d in (oracle.LOWEST_W, oracle.HIGHEST_W):
                         self.assertEqual(day(kind, y, m, d), [-1], (kind, y, m, d))
 
 

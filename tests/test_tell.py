@@ -6,9 +6,6 @@ import unittest
 import oracle
 from eightcalendars.days import day, tell
 
-LOWEST_W, HIGHEST_W = -2147483648, 2147483647
-LOWEST_D, HIGHEST_D = -9223372036854775808, 9223372036854775807
-
 # A Gregorian date, and its day's text in each style, in order.
 KNOWN = [
     ((0, 1, 1), "0000-01-01", "0000-001", "-000001-W52-6"),
@@ -95,18 +92,18 @@ class Many(unittest.TestCase):
 
 class Refusals(unittest.TestCase):
     def test_styles(self):
-        for style in (-1, 3, 4, LOWEST_W, HIGHEST_W):
+        for style in (-1, 3, 4, oracle.LOWEST_W, oracle.HIGHEST_W):
             for number in (0, 738886):
                 self.assertEqual(tell(style, number), [-1], (style, number))
 
     def test_days_beyond(self):
         for style in (0, 1, 2):
-            for number in (oracle.LOWEST_DAY - 1, oracle.HIGHEST_DAY + 1, LOWEST_D, HIGHEST_D):
+            for number in (oracle.LOWEST_DAY - 1, oracle.HIGHEST_DAY + 1, oracle.LOWEST_D, oracle.HIGHEST_D):
                 self.assertEqual(tell(style, number), [-1], (style, number))
 
     def test_both_at_the_ends(self):
-        for style in (LOWEST_W, HIGHEST_W):
-            for number in (LOWEST_D, HIGHEST_D):
+        for style in (oracle.LOWEST_W, oracle.HIGHEST_W):
+            for number in (oracle.LOWEST_D, oracle.HIGHEST_D):
                 self.assertEqual(tell(style, number), [-1], (style, number))
 
 

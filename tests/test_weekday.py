@@ -6,8 +6,6 @@ import unittest
 import oracle
 from eightcalendars.days import date, day, weekday
 
-LOWEST_D, HIGHEST_D = -9223372036854775808, 9223372036854775807
-
 
 class Weekday(unittest.TestCase):
     def test_a_week_behind_day_0(self):
@@ -40,7 +38,7 @@ class Weekday(unittest.TestCase):
         self.assertEqual(weekday(oracle.HIGHEST_DAY - 1), [6])
 
     def test_days_beyond(self):
-        for number in (oracle.LOWEST_DAY - 1, oracle.HIGHEST_DAY + 1, LOWEST_D, HIGHEST_D):
+        for number in (oracle.LOWEST_DAY - 1, oracle.HIGHEST_DAY + 1, oracle.LOWEST_D, oracle.HIGHEST_D):
             self.assertEqual(weekday(number), [-1], number)
 
 
